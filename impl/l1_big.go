@@ -2,6 +2,7 @@ package impl
 
 import (
 	"cmp"
+	"math/bits"
 	"slices"
 )
 
@@ -226,6 +227,24 @@ func (m limbs) trimmed() limbs {
 		return nil
 	}
 	return m[:n]
+}
+
+// bitLength counts the bits from the highest one that is set downwards.
+func (m limbs) bitLength() int {
+	if len(m) == 0 {
+		return 0
+	}
+	return limbBits*(len(m)-1) + bits.Len32(m[len(m)-1])
+}
+
+// lowZeros counts the bits below the lowest one that is set.
+func (m limbs) lowZeros() int {
+	for i, limb := range m {
+		if limb != 0 {
+			return limbBits*i + bits.TrailingZeros32(limb)
+		}
+	}
+	return 0
 }
 
 func (m limbs) order(o limbs) int {

@@ -1,6 +1,7 @@
 package tests
 
 import (
+	"fmt"
 	"slices"
 	"testing"
 
@@ -49,26 +50,33 @@ func memoryNumbers() []impl.Big {
 	return append([]impl.Big{{}, whole(1), negative(whole(1)), whole(5, 9, 0, 3), negative(whole(ones, ones, ones)), mixed(20, 21), filled(impl.MaxLimbs, ones)}, wrongNumbers()...)
 }
 
+// checkNewMemory calls twice, then writes over one answer and over both
+// arguments, and looks at what must not have changed.
+func checkNewMemory(t *testing.T, what string, a, b impl.Big, call func(a, b impl.Big) impl.Big) {
+	t.Helper()
+	x, allX := withRoom(a.Mag, 0xabcdabcd)
+	y, allY := withRoom(b.Mag, 0xabcdabcd)
+	wasX, wasY := slices.Clone(allX), slices.Clone(allY)
+	ax, by := impl.Big{Neg: a.Neg, Mag: x}, impl.Big{Neg: b.Neg, Mag: y}
+	first := call(ax, by)
+	second := call(ax, by)
+	want := copyOf(first)
+	scribble(first.Mag, 0x12341234)
+	if !slices.Equal(allX, wasX) || !slices.Equal(allY, wasY) {
+		t.Fatalf("%s: an argument was changed, or the answer shares its memory", what)
+	}
+	scribble(allX, 0x77777777)
+	scribble(allY, 0x77777777)
+	if !same(second, want) {
+		t.Fatalf("%s: the answer shares memory with another or with an argument", what)
+	}
+}
+
 func TestBigAnswersAreNewMemory(t *testing.T) {
 	for name, call := range bigCalls() {
 		for i, a := range memoryNumbers() {
 			for j, b := range memoryNumbers() {
-				x, allX := withRoom(a.Mag, 0xabcdabcd)
-				y, allY := withRoom(b.Mag, 0xabcdabcd)
-				wasX, wasY := slices.Clone(allX), slices.Clone(allY)
-				ax, by := impl.Big{Neg: a.Neg, Mag: x}, impl.Big{Neg: b.Neg, Mag: y}
-				first := call(ax, by)
-				second := call(ax, by)
-				want := copyOf(first)
-				scribble(first.Mag, 0x12341234)
-				if !slices.Equal(allX, wasX) || !slices.Equal(allY, wasY) {
-					t.Fatalf("%s of %d and %d: an argument was changed, or the answer shares its memory", name, i, j)
-				}
-				scribble(allX, 0x77777777)
-				scribble(allY, 0x77777777)
-				if !same(second, want) {
-					t.Fatalf("%s of %d and %d: the answer shares memory with another or with an argument", name, i, j)
-				}
+				checkNewMemory(t, fmt.Sprintf("%s of %d and %d", name, i, j), a, b, call)
 			}
 		}
 	}
