@@ -54,21 +54,21 @@ func BigAdd(a, b Big) (Big, int) {
 	if !BigValid(a) || !BigValid(b) {
 		return Big{}, CodeBad
 	}
-	return withinLimit(sumOf(a, b))
+	return withinLimit(a.plus(b))
 }
 
 func BigSub(a, b Big) (Big, int) {
 	if !BigValid(a) || !BigValid(b) {
 		return Big{}, CodeBad
 	}
-	return withinLimit(sumOf(a, signed(!b.Neg, b.Mag)))
+	return withinLimit(a.minus(b))
 }
 
 func BigMul(a, b Big) (Big, int) {
 	if !BigValid(a) || !BigValid(b) {
 		return Big{}, CodeBad
 	}
-	return withinLimit(productOf(a, b))
+	return withinLimit(a.times(b))
 }
 
 func BigCmp(a, b Big) (int, int) {
@@ -138,7 +138,7 @@ func withinLimit(a Big) (Big, int) {
 	return a, CodeOK
 }
 
-func sumOf(a, b Big) Big {
+func (a Big) plus(b Big) Big {
 	x, y := limbs(a.Mag), limbs(b.Mag)
 	if a.Neg == b.Neg {
 		return signed(a.Neg, x.plus(y))
@@ -149,8 +149,16 @@ func sumOf(a, b Big) Big {
 	return signed(a.Neg, x.minus(y))
 }
 
-func productOf(a, b Big) Big {
+func (a Big) minus(b Big) Big {
+	return a.plus(signed(!b.Neg, b.Mag))
+}
+
+func (a Big) times(b Big) Big {
 	return signed(a.Neg != b.Neg, limbs(a.Mag).times(b.Mag))
+}
+
+func (a Big) sign() int {
+	return orderOf(a, Big{})
 }
 
 func orderOf(a, b Big) int {

@@ -58,11 +58,9 @@ func TestDyOfIsTheValue(t *testing.T) {
 }
 
 func TestDyOfWantsAFiniteFloat(t *testing.T) {
-	for _, bits := range []uint32{0x7f800000, 0x7f800001, 0x7fa00000, 0x7fbfffff, 0x7fc00000, 0x7fffffff} {
-		for _, bits := range []uint32{bits, bits | signBit} {
-			if d, code := impl.DyOf(bits); code != impl.CodeBad || !isZeroDyadic(d) {
-				t.Errorf("%#x: %v, code %d", bits, d, code)
-			}
+	for _, bits := range wrongFloats() {
+		if d, code := impl.DyOf(bits); code != impl.CodeBad || !isZeroDyadic(d) {
+			t.Errorf("%#x: %v, code %d", bits, d, code)
 		}
 	}
 }

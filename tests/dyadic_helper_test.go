@@ -45,12 +45,16 @@ func (a exact) sign() int {
 	return a.m.Sign()
 }
 
-// exactDet goes along the first row, unlike the program's sum of six products.
 func exactDet(m []impl.Dyadic) exact {
 	x := make([]exact, len(m))
 	for i, a := range m {
 		x[i] = exactOf(a)
 	}
+	return detOf(x)
+}
+
+// detOf goes along the first row, unlike the program's sum of six products.
+func detOf(x []exact) exact {
 	minor := func(i, j int) exact {
 		return x[3+i].times(x[6+j]).minus(x[3+j].times(x[6+i]))
 	}
@@ -146,6 +150,15 @@ func wrongDyadics() []impl.Dyadic {
 	}
 	for _, e := range []int{impl.MaxExp + 1, -impl.MaxExp - 1, 1 << 40, -1 << 40, math.MaxInt, math.MinInt} {
 		all = append(all, dy(1, e), dy(-3, e), dy(0, e), times2(filled(impl.MaxLimbs, ones), e))
+	}
+	return all
+}
+
+// wrongFloats are not finite: both infinities and NaNs of all kinds.
+func wrongFloats() []uint32 {
+	var all []uint32
+	for _, bits := range []uint32{0x7f800000, 0x7f800001, 0x7fa00000, 0x7fbfffff, 0x7fc00000, 0x7fffffff} {
+		all = append(all, bits, bits|signBit)
 	}
 	return all
 }
