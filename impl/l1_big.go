@@ -126,6 +126,10 @@ func BigParse(text []byte) (Big, int) {
 	return withinLimit(signed(neg, magnitudeOf(digits)))
 }
 
+func one() Big {
+	return Big{Mag: limbs{1}}
+}
+
 // signed keeps zero to its one form.
 func signed(neg bool, mag limbs) Big {
 	return Big{Neg: neg && len(mag) > 0, Mag: mag}
@@ -150,7 +154,12 @@ func (a Big) plus(b Big) Big {
 }
 
 func (a Big) minus(b Big) Big {
-	return a.plus(signed(!b.Neg, b.Mag))
+	return a.plus(b.negated())
+}
+
+// negated shares the limbs.
+func (a Big) negated() Big {
+	return signed(!a.Neg, a.Mag)
 }
 
 func (a Big) times(b Big) Big {
@@ -380,4 +389,49 @@ func (m limbs) divide(divisor uint32) uint32 {
 		remainder %= uint64(divisor)
 	}
 	return uint32(remainder)
+}
+
+// odd is m without the zeros at the lower end.
+func (m limbs) odd() limbs {
+	answer, _ := m.shiftedDown(m.lowZeros())
+	return answer
+}
+
+// commonFactor is the greatest one of two odd numbers.
+func (m limbs) commonFactor(o limbs) limbs {
+	for {
+		switch m.order(o) {
+		case 0:
+			return m
+		case -1:
+			m, o = o, m
+		}
+		// Two divides neither of them, so it can be dropped from their difference.
+		m = m.minus(o).odd()
+	}
+}
+
+// over wants an odd divisor without remainder. So the lowest limb of the
+// quotient is the one whose product with the divisor has the lowest limb of m,
+// and the same holds for what is left of m without that product.
+func (m limbs) over(divisor limbs) limbs {
+	inverse := inverseOf(divisor[0])
+	var quotient limbs
+	for len(m) > 0 {
+		limb := m[0] * inverse
+		quotient = append(quotient, limb)
+		m, _ = m.minus(divisor.timesPlus(limb, 0)).shiftedDown(limbBits)
+	}
+	return quotient
+}
+
+// inverseOf is the limb whose product with an odd one ends in 1.
+func inverseOf(odd uint32) uint32 {
+	// The square of an odd number ends in the bits 001, and each round doubles
+	// the number of bits that are right.
+	inverse := odd
+	for right := 3; right < limbBits; right *= 2 {
+		inverse *= 2 - odd*inverse
+	}
+	return inverse
 }

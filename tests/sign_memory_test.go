@@ -29,18 +29,24 @@ func TestSignsKeepTheirArguments(t *testing.T) {
 		}
 		return got
 	}
-	first := make([][8]int, 500)
-	for i := range first {
-		first[i] = ask(i)
-	}
-	for i := len(first) - 1; i >= 0; i-- {
-		if second := ask(i); second != first[i] {
-			t.Errorf("asked %d twice: %v, then %v", i, first[i], second)
-		}
-	}
+	checkAskedTwice(t, 500, ask)
 	for i, p := range all {
 		if i < len(points) && p != points[i] || i >= len(points) && p != point(9, 9, 9) {
 			t.Errorf("point %d was changed", i)
+		}
+	}
+}
+
+// checkAskedTwice asks n things, then all again the other way round.
+func checkAskedTwice[T comparable](t *testing.T, n int, ask func(int) T) {
+	t.Helper()
+	first := make([]T, n)
+	for i := range first {
+		first[i] = ask(i)
+	}
+	for i := n - 1; i >= 0; i-- {
+		if second := ask(i); second != first[i] {
+			t.Errorf("asked %d twice: %v, then %v", i, first[i], second)
 		}
 	}
 }
