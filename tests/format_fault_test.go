@@ -224,35 +224,45 @@ func TestP13EveryByteChanged(t *testing.T) {
 	}
 }
 
-// TestP13BytesOfAllKinds changes some bytes at once, to values at which faults
-// begin and end, and has each code often.
+// nearlyScene is the bytes of a scene, of which some are often changed, cut off
+// or added, to values at which faults begin and end.
+func (c *chance) nearlyScene() []byte {
+	values := []byte{0, 1, 2, 3, 4, 5, 39, 40, 41, 63, 127, 128, 191, 254, 255, 'S', 'C', 'E', 'N'}
+	s := c.validScene(int(c.below(3)), int(c.below(4)), int(c.below(3)))
+	for _, place := range floatsIn(s) {
+		switch n := c.below(90); {
+		case n < 30:
+			*place = n % 2 << 31
+		case n == 30:
+			*place = wrongFloats()[c.below(12)]
+		}
+	}
+	b := sceneBytes(s)
+	for range c.below(4) {
+		b[int(c.below(uint32(len(b))))] = values[c.below(uint32(len(values)))]
+	}
+	if c.below(3) == 0 {
+		b = b[:c.below(uint32(len(b)))]
+	}
+	for c.below(4) == 0 {
+		b = append(b, values[c.below(uint32(len(values)))])
+	}
+	return b
+}
+
+// sceneCodes are those that DecodeScene can answer.
+func sceneCodes() []int {
+	return []int{impl.CodeOK, impl.CodeLimit, impl.CodeMagic, impl.CodeShort, impl.CodeNumber, impl.CodeZero, impl.CodeTrailing}
+}
+
+// TestP13BytesOfAllKinds has each code often.
 func TestP13BytesOfAllKinds(t *testing.T) {
 	var c chance
-	values := []byte{0, 1, 2, 3, 4, 5, 39, 40, 41, 63, 127, 128, 191, 254, 255, 'S', 'C', 'E', 'N'}
 	var seen [9]int
 	for i := range 60000 {
-		s := c.validScene(int(c.below(3)), int(c.below(4)), int(c.below(3)))
-		for _, place := range floatsIn(s) {
-			switch n := c.below(90); {
-			case n < 30:
-				*place = n % 2 << 31
-			case n == 30:
-				*place = wrongFloats()[c.below(12)]
-			}
-		}
-		b := sceneBytes(s)
-		for range c.below(4) {
-			b[int(c.below(uint32(len(b))))] = values[c.below(uint32(len(values)))]
-		}
-		if c.below(3) == 0 {
-			b = b[:c.below(uint32(len(b)))]
-		}
-		for c.below(4) == 0 {
-			b = append(b, values[c.below(uint32(len(values)))])
-		}
-		seen[checkBytes(t, fmt.Sprint("list ", i), b)]++
+		seen[checkBytes(t, fmt.Sprint("list ", i), c.nearlyScene())]++
 	}
-	for _, code := range []int{impl.CodeOK, impl.CodeLimit, impl.CodeMagic, impl.CodeShort, impl.CodeNumber, impl.CodeZero, impl.CodeTrailing} {
+	for _, code := range sceneCodes() {
 		if seen[code] < 500 {
 			t.Errorf("code %d only %d times", code, seen[code])
 		}
